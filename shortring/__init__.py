@@ -1,0 +1,1 @@
+"""Shortring: webs whose long rings are all tied across."""
