@@ -45,6 +45,29 @@ def web_of(many, ties):
     return Web(many, ties)
 
 
+def different(web, points):
+    """Whether these are points of the web, none of them twice."""
+    return len(set(points)) == len(points) and all(0 <= point < web.many for point in points)
+
+
+def untied(web, points):
+    """The first of the points that is not tied to one further on, and the first of these; or None."""
+    for at, one in enumerate(points):
+        other = _first_untied(web, one, points[at + 1:])
+        if other is not None:
+            return one, other
+    return None
+
+
+def _first_untied(web, one, others):
+    """The first of the others that the one is not tied to, or None."""
+    beside = set(web.beside(one))
+    for other in others:
+        if other not in beside:
+            return other
+    return None
+
+
 def _rows_of(many, ties):
     """For each point the list of those that it is tied to, rising, each once."""
     rows = [[] for point in range(many)]
